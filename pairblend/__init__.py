@@ -1,0 +1,1 @@
+"""Quadratic mixture model: predicts the responses of mixtures of a few components."""
