@@ -78,3 +78,15 @@ def predict(pure, binary, mixture):
     if not mixture_within_limits(mixture, len(pure)):
         return [OUT_OF_LIMITS]
     return [0] + predicted_response(pure, binary, mixture)
+
+
+def interactions(pure, binary):
+    """Answer the number of pairs and the interaction of each, or the error code."""
+    if not responses_within_limits(pure, binary):
+        return [OUT_OF_LIMITS]
+    found = pair_interactions(pure, binary)
+    answer = [len(found)]
+    for interaction in found:
+        # Whole responses make every interaction whole, so it is over 1.
+        answer.extend([interaction, 1])
+    return answer

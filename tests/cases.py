@@ -1,5 +1,13 @@
 """What the tests of several functions have in common."""
 
+import contextlib
+import copy
+import io
+
+# Four components whose six interactions are 24, -34, -2, -26, 22, -44.
+FOUR_PURE = [5, -3, 8, 2]
+FOUR_BINARY = [7, -2, 3, -4, 5, -6]
+
 # The length of binary that belongs to each length of pure within the limits.
 PAIR_COUNTS = {1: 0, 2: 1, 3: 3, 4: 6}
 
@@ -82,3 +90,75 @@ def wrong_responses():
         + wrong_elements()
         + several_wrong_responses()
     )
+
+
+def sweep(rounds):
+    """Many triples (pure, binary, mixture) within the limits, the same ones each time."""
+    found = []
+    state = 1
+
+    def draw(low, high):
+        nonlocal state
+        state = (state * 1103515245 + 12345) % 2147483648
+        # The low bits of such a sequence repeat soon.
+        return low + state // 65536 % (high - low + 1)
+
+    for count, pair_count in PAIR_COUNTS.items():
+        for turn in range(rounds):
+            # Small numbers in every other turn, for more zeros and common divisors.
+            response, parts = ((999, 99), (6, 3))[turn % 2]
+            pure = [draw(-response, response) for place in range(count)]
+            binary = [draw(-response, response) for place in range(pair_count)]
+            mixture = [draw(0, parts) for place in range(count)]
+            if sum(mixture) > 0:
+                found.append((pure, binary, mixture))
+    return found
+
+
+class CallChecks:
+    """What holds of every call. A test case adds FUNCTION and CALLS, its arguments."""
+
+    def answer_of(self, call):
+        return self.FUNCTION(*copy.deepcopy(call))
+
+    def test_arguments_stay_as_they_were(self):
+        for call in self.CALLS:
+            arguments = copy.deepcopy(call)
+            self.FUNCTION(*arguments)
+            self.assertEqual(arguments, call)
+
+    def test_arguments_are_not_changed_for_a_while_either(self):
+        for call in self.CALLS:
+            arguments = [UnchangingList(numbers) for numbers in call]
+            self.assertEqual(self.FUNCTION(*arguments), self.answer_of(call))
+
+    def test_second_call_gives_the_same(self):
+        for call in self.CALLS:
+            arguments = copy.deepcopy(call)
+            answer = self.FUNCTION(*arguments)
+            self.assertEqual(self.FUNCTION(*arguments), answer)
+            for other in self.CALLS:
+                self.answer_of(other)
+            self.assertEqual(self.FUNCTION(*arguments), answer)
+
+    def test_an_answer_belongs_to_the_caller(self):
+        for call in self.CALLS:
+            answer = self.answer_of(call)
+            kept = list(answer)
+            answer.append(5)
+            answer[0] = 6
+            self.assertEqual(self.answer_of(call), kept)
+
+    def test_kinds_of_what_is_answered(self):
+        for call in self.CALLS:
+            answer = self.answer_of(call)
+            self.assertIs(type(answer), list)
+            for number in answer:
+                self.assertIs(type(number), int)
+
+    def test_prints_nothing(self):
+        out = io.StringIO()
+        with contextlib.redirect_stdout(out), contextlib.redirect_stderr(out):
+            for call in self.CALLS:
+                self.answer_of(call)
+        self.assertEqual(out.getvalue(), "")

@@ -1,18 +1,19 @@
 """Tests of predict."""
 
-import contextlib
-import copy
-import io
 import itertools
 import unittest
 from fractions import Fraction
 
 from pairblend.responses import predict
-from tests.cases import PAIR_COUNTS, UnchangingList, with_element, wrong_responses
-
-# Four components whose six interactions are 24, -34, -2, -26, 22, -44.
-FOUR_PURE = [5, -3, 8, 2]
-FOUR_BINARY = [7, -2, 3, -4, 5, -6]
+from tests.cases import (
+    FOUR_BINARY,
+    FOUR_PURE,
+    PAIR_COUNTS,
+    CallChecks,
+    sweep,
+    with_element,
+    wrong_responses,
+)
 
 WRONG_PARTS = (100, 101, 255, 256, 65536, 2147483648, 4294967295)
 
@@ -182,6 +183,39 @@ class Requirements(PredictCase):
                 self.check(pure, binary, mixture, fraction_answer(response))
 
 
+class Definition(PredictCase):
+    """Against "Predicted response", followed word by word in fractions."""
+
+    def check_definition(self, pure, binary, mixture):
+        x = [Fraction(parts, sum(mixture)) for parts in mixture]
+        response = Fraction(0)
+        for i, pure_response in enumerate(pure):
+            response = response + x[i] * pure_response
+        pairs = itertools.combinations(range(len(pure)), 2)
+        for (i, j), pair_response in zip(pairs, binary):
+            interaction = 4 * pair_response - 2 * (pure[i] + pure[j])
+            response = response + interaction * x[i] * x[j]
+        self.check(pure, binary, mixture, fraction_answer(response))
+
+    def test_many_mixtures(self):
+        for pure, binary, mixture in sweep(1000):
+            self.check_definition(pure, binary, mixture)
+
+    def test_every_number_of_parts(self):
+        for parts in range(100):
+            for place in range(4):
+                self.check_definition(FOUR_PURE, FOUR_BINARY, with_element([1, 2, 3, 4], place, parts))
+            self.check_definition([10, 20], [18], [1, parts])
+            self.check_definition([10, 20], [18], [parts, 99])
+
+    def test_every_response(self):
+        for response in range(-999, 1000):
+            self.check_definition([response], [], [3])
+            self.check_definition([response, 20], [18], [2, 1])
+            self.check_definition([10, response], [18], [2, 1])
+            self.check_definition([10, 20], [response], [2, 1])
+
+
 class Edges(PredictCase):
     def test_largest_and_smallest_responses(self):
         for number in (-999, 999):
@@ -263,7 +297,8 @@ class Refusals(PredictCase):
             self.check_refused(pure, binary, [])
 
 
-class Calls(PredictCase):
+class Calls(CallChecks, unittest.TestCase):
+    FUNCTION = staticmethod(predict)
     CALLS = (
         ([10, 20], [18], [1, 2]),
         (FOUR_PURE, FOUR_BINARY, [4, 3, 2, 1]),
@@ -273,37 +308,10 @@ class Calls(PredictCase):
         ([], [18] * 8, [4294967295] * 6),
     )
 
-    def test_arguments_stay_as_they_were(self):
-        for call in self.CALLS:
-            arguments = copy.deepcopy(call)
-            predict(*arguments)
-            self.assertEqual(arguments, call)
-
-    def test_arguments_are_not_changed_for_a_while_either(self):
-        for call in self.CALLS:
-            arguments = [UnchangingList(numbers) for numbers in call]
-            self.assertEqual(predict(*arguments), predict(*copy.deepcopy(call)))
-
     def test_one_list_as_two_arguments(self):
         numbers = [10, 20]
         self.assertEqual(predict(numbers, [18], numbers), [0, 58, 3])
         self.assertEqual(numbers, [10, 20])
-
-    def test_second_call_gives_the_same(self):
-        for call in self.CALLS:
-            arguments = copy.deepcopy(call)
-            answer = predict(*arguments)
-            for other in self.CALLS:
-                predict(*copy.deepcopy(other))
-            self.assertEqual(predict(*arguments), answer)
-
-    def test_an_answer_belongs_to_the_caller(self):
-        for call in self.CALLS:
-            answer = predict(*copy.deepcopy(call))
-            kept = list(answer)
-            answer.append(5)
-            answer[0] = 6
-            self.assertEqual(predict(*copy.deepcopy(call)), kept)
 
     def test_arguments_changed_by_the_caller_count(self):
         pure = [10, 20]
@@ -317,22 +325,8 @@ class Calls(PredictCase):
         pure[0] = 1000
         self.assertEqual(predict(pure, binary, mixture), [-22])
 
-    def test_kinds_of_what_is_answered(self):
-        for call in self.CALLS:
-            answer = predict(*copy.deepcopy(call))
-            self.assertIs(type(answer), list)
-            for number in answer:
-                self.assertIs(type(number), int)
-
     def test_arguments_by_their_names(self):
         self.assertEqual(predict(pure=[10, 20], binary=[18], mixture=[1, 2]), [0, 58, 3])
-
-    def test_prints_nothing(self):
-        out = io.StringIO()
-        with contextlib.redirect_stdout(out), contextlib.redirect_stderr(out):
-            for call in self.CALLS:
-                predict(*copy.deepcopy(call))
-        self.assertEqual(out.getvalue(), "")
 
 
 if __name__ == "__main__":
