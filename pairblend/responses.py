@@ -5,6 +5,7 @@ OUT_OF_LIMITS = -22
 MOST_COMPONENTS = 4
 LARGEST_RESPONSE = 999
 MOST_PARTS = 99
+MOST_BEST_PARTS = 10
 
 
 def all_between(numbers, low, high):
@@ -58,17 +59,49 @@ def pair_interactions(pure, binary):
     return found
 
 
-def predicted_response(pure, binary, mixture):
-    """Give the predicted response of a mixture as [numerator, denominator]."""
-    total = sum(mixture)
+def scaled_response(pure, binary, mixture):
+    """Give the predicted response times the square of the sum of all parts."""
     pure_sum = 0
     for parts, response in zip(mixture, pure):
         pure_sum = pure_sum + parts * response
     pair_sum = 0
     for pair, interaction in zip(component_pairs(len(pure)), pair_interactions(pure, binary)):
         pair_sum = pair_sum + interaction * mixture[pair[0]] * mixture[pair[1]]
-    # A fraction is parts / total, so all terms are whole over total * total.
-    return lowest_terms(pure_sum * total + pair_sum, total * total)
+    # A fraction is parts / sum, so all terms are whole over the square of the sum.
+    return pure_sum * sum(mixture) + pair_sum
+
+
+def predicted_response(pure, binary, mixture):
+    """Give the predicted response of a mixture as [numerator, denominator]."""
+    total = sum(mixture)
+    return lowest_terms(scaled_response(pure, binary, mixture), total * total)
+
+
+def mixtures_with_parts(component_count, parts):
+    """List all mixtures whose parts add up to parts, in lexicographic order."""
+    starts = [[]]
+    # The last component takes what the others leave, so only they are chosen.
+    for place in range(component_count - 1):
+        longer = []
+        for start in starts:
+            for more in range(parts - sum(start) + 1):
+                longer.append(start + [more])
+        starts = longer
+    return [start + [parts - sum(start)] for start in starts]
+
+
+def best_of(mixtures, pure, binary):
+    """Give the first mixture with the largest response, of mixtures with as many parts."""
+    best = mixtures[0]
+    largest = scaled_response(pure, binary, best)
+    for mixture in mixtures:
+        # With as many parts in all of them, the scaled responses are in the order of the responses.
+        scaled = scaled_response(pure, binary, mixture)
+        # Only a larger one takes the place, so the first one of a tie stays.
+        if scaled > largest:
+            best = mixture
+            largest = scaled
+    return best
 
 
 def predict(pure, binary, mixture):
@@ -90,3 +123,13 @@ def interactions(pure, binary):
         # Whole responses make every interaction whole, so it is over 1.
         answer.extend([interaction, 1])
     return answer
+
+
+def best_mixture(parts, pure, binary):
+    """Answer the number of components, the best mixture and its response, or the error code."""
+    if not responses_within_limits(pure, binary):
+        return [OUT_OF_LIMITS]
+    if not 1 <= parts <= MOST_BEST_PARTS:
+        return [OUT_OF_LIMITS]
+    best = best_of(mixtures_with_parts(len(pure), parts), pure, binary)
+    return [len(pure)] + best + predicted_response(pure, binary, best)

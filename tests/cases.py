@@ -3,6 +3,8 @@
 import contextlib
 import copy
 import io
+import itertools
+from fractions import Fraction
 
 # Four components whose six interactions are 24, -34, -2, -26, 22, -44.
 FOUR_PURE = [5, -3, 8, 2]
@@ -115,6 +117,28 @@ def sweep(rounds):
     return found
 
 
+def fractions_of(mixture):
+    """The fraction of each component of a mixture."""
+    return [Fraction(parts, sum(mixture)) for parts in mixture]
+
+
+def defined_response(pure, binary, x):
+    """The predicted response of fractions, followed word by word."""
+    response = Fraction(0)
+    for i, pure_response in enumerate(pure):
+        response = response + x[i] * pure_response
+    pairs = itertools.combinations(range(len(pure)), 2)
+    for (i, j), pair_response in zip(pairs, binary):
+        interaction = 4 * pair_response - 2 * (pure[i] + pure[j])
+        response = response + interaction * x[i] * x[j]
+    return response
+
+
+def rational(fraction):
+    """The two numbers that tell a fraction in an answer."""
+    return [fraction.numerator, fraction.denominator]
+
+
 class CallChecks:
     """What holds of every call. A test case adds FUNCTION and CALLS, its arguments."""
 
@@ -129,7 +153,7 @@ class CallChecks:
 
     def test_arguments_are_not_changed_for_a_while_either(self):
         for call in self.CALLS:
-            arguments = [UnchangingList(numbers) for numbers in call]
+            arguments = [UnchangingList(part) if isinstance(part, list) else part for part in call]
             self.assertEqual(self.FUNCTION(*arguments), self.answer_of(call))
 
     def test_second_call_gives_the_same(self):

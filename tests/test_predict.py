@@ -10,17 +10,15 @@ from tests.cases import (
     FOUR_PURE,
     PAIR_COUNTS,
     CallChecks,
+    defined_response,
+    fractions_of,
+    rational,
     sweep,
     with_element,
     wrong_responses,
 )
 
 WRONG_PARTS = (100, 101, 255, 256, 65536, 2147483648, 4294967295)
-
-
-def fraction_answer(fraction):
-    """The answer of predict that tells this fraction."""
-    return [0, fraction.numerator, fraction.denominator]
 
 
 class PredictCase(unittest.TestCase):
@@ -176,26 +174,19 @@ class Requirements(PredictCase):
             for mixture in itertools.product((0, 1, 2, 5), repeat=count):
                 if sum(mixture) == 0:
                     continue
-                x = [Fraction(parts, sum(mixture)) for parts in mixture]
+                x = fractions_of(mixture)
                 response = sum(Fraction(pure[i]) * x[i] for i in range(count))
                 for (i, j), factor in zip(pairs, factors):
                     response = response + factor * x[i] * x[j]
-                self.check(pure, binary, mixture, fraction_answer(response))
+                self.check(pure, binary, mixture, [0] + rational(response))
 
 
 class Definition(PredictCase):
     """Against "Predicted response", followed word by word in fractions."""
 
     def check_definition(self, pure, binary, mixture):
-        x = [Fraction(parts, sum(mixture)) for parts in mixture]
-        response = Fraction(0)
-        for i, pure_response in enumerate(pure):
-            response = response + x[i] * pure_response
-        pairs = itertools.combinations(range(len(pure)), 2)
-        for (i, j), pair_response in zip(pairs, binary):
-            interaction = 4 * pair_response - 2 * (pure[i] + pure[j])
-            response = response + interaction * x[i] * x[j]
-        self.check(pure, binary, mixture, fraction_answer(response))
+        response = defined_response(pure, binary, fractions_of(mixture))
+        self.check(pure, binary, mixture, [0] + rational(response))
 
     def test_many_mixtures(self):
         for pure, binary, mixture in sweep(1000):
