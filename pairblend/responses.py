@@ -6,6 +6,7 @@ MOST_COMPONENTS = 4
 LARGEST_RESPONSE = 999
 MOST_PARTS = 99
 MOST_BEST_PARTS = 10
+LARGEST_PROPORTION = 99
 
 
 def all_between(numbers, low, high):
@@ -104,6 +105,23 @@ def best_of(mixtures, pure, binary):
     return best
 
 
+def combined_parts(k, m, first, second):
+    """Give whole parts whose fractions are those of the combination of two mixtures."""
+    first_sum = sum(first)
+    second_sum = sum(second)
+    combined = []
+    # Each mixture is multiplied by the sum of the other, so that fractions are combined, not parts.
+    for first_parts, second_parts in zip(first, second):
+        combined.append(k * first_parts * second_sum + m * second_parts * first_sum)
+    return combined
+
+
+def weighted_mean(k, m, first, second):
+    """Give the mean of two rational numbers, weighted k to m, as [numerator, denominator]."""
+    numerator = k * first[0] * second[1] + m * second[0] * first[1]
+    return lowest_terms(numerator, (k + m) * first[1] * second[1])
+
+
 def predict(pure, binary, mixture):
     """Answer 0 and the predicted response of the mixture, or the error code."""
     if not responses_within_limits(pure, binary):
@@ -133,3 +151,18 @@ def best_mixture(parts, pure, binary):
         return [OUT_OF_LIMITS]
     best = best_of(mixtures_with_parts(len(pure), parts), pure, binary)
     return [len(pure)] + best + predicted_response(pure, binary, best)
+
+
+def predict_combination(k, m, pure, binary, first, second):
+    """Answer 0, the response of the combination and the mean response, or the error code."""
+    if not responses_within_limits(pure, binary):
+        return [OUT_OF_LIMITS]
+    if not all_between([k, m], 1, LARGEST_PROPORTION):
+        return [OUT_OF_LIMITS]
+    for mixture in (first, second):
+        if not mixture_within_limits(mixture, len(pure)):
+            return [OUT_OF_LIMITS]
+    response = predicted_response(pure, binary, combined_parts(k, m, first, second))
+    first_response = predicted_response(pure, binary, first)
+    second_response = predicted_response(pure, binary, second)
+    return [0] + response + weighted_mean(k, m, first_response, second_response)

@@ -16,6 +16,9 @@ PAIR_COUNTS = {1: 0, 2: 1, 3: 3, 4: 6}
 # What lies just outside and far outside the limits of pure and binary.
 WRONG_RESPONSES = (-1000, 1000, -2147483648, 2147483647)
 
+# What lies just outside and far outside the limits of the parts of a mixture.
+TOO_MANY_PARTS = (100, 101, 255, 256, 65536, 2147483648, 4294967295)
+
 
 class UnchangingList(list):
     """A list that can be read as ever, and fails when something would change it."""
@@ -92,6 +95,22 @@ def wrong_responses():
         + wrong_elements()
         + several_wrong_responses()
     )
+
+
+def wrong_mixtures(count):
+    """All the mixtures that are to be refused for so many components."""
+    found = [[0] * count]
+    for length in range(7):
+        if length != count:
+            found.append([1] * length)
+            # Parts in the front alone, so that cutting it off would pass.
+            found.append(([1] + [0] * 5)[:length])
+    for parts in TOO_MANY_PARTS:
+        found.append([parts] * count)
+        for place in range(count):
+            for others in (0, 1, 99):
+                found.append(with_element([others] * count, place, parts))
+    return found
 
 
 def sweep(rounds):

@@ -15,10 +15,9 @@ from tests.cases import (
     rational,
     sweep,
     with_element,
+    wrong_mixtures,
     wrong_responses,
 )
-
-WRONG_PARTS = (100, 101, 255, 256, 65536, 2147483648, 4294967295)
 
 
 class PredictCase(unittest.TestCase):
@@ -253,26 +252,10 @@ class Refusals(PredictCase):
         self.check_refused([1, 1], [-1000], [1, 0])
         self.check_refused([1, 1, 1], [1, 1, 1000], [1, 0, 0])
 
-    def test_mixture_of_another_length(self):
+    def test_mixture_outside_the_limits(self):
         for count, pair_count in PAIR_COUNTS.items():
-            for length in range(7):
-                if length != count:
-                    self.check_refused([1] * count, [2] * pair_count, [1] * length)
-                    # Parts in the front alone, so that cutting it off would pass.
-                    self.check_refused([1] * count, [2] * pair_count, ([1] + [0] * 5)[:length])
-
-    def test_mixture_without_parts(self):
-        for count, pair_count in PAIR_COUNTS.items():
-            self.check_refused([1] * count, [2] * pair_count, [0] * count)
-
-    def test_too_many_parts(self):
-        for count, pair_count in PAIR_COUNTS.items():
-            for parts in WRONG_PARTS:
-                for place in range(count):
-                    for others in (0, 1, 99):
-                        mixture = with_element([others] * count, place, parts)
-                        self.check_refused([1] * count, [2] * pair_count, mixture)
-                self.check_refused([1] * count, [2] * pair_count, [parts] * count)
+            for mixture in wrong_mixtures(count):
+                self.check_refused([1] * count, [2] * pair_count, mixture)
 
     def test_several_at_once(self):
         self.check_refused([], [], [])
