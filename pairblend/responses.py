@@ -1,5 +1,6 @@
 """Responses of mixtures under the quadratic mixture model."""
 
+NO_SUCH_COMPONENT = -2
 OUT_OF_LIMITS = -22
 
 MOST_COMPONENTS = 4
@@ -122,6 +123,16 @@ def weighted_mean(k, m, first, second):
     return lowest_terms(numerator, (k + m) * first[1] * second[1])
 
 
+def positive_partners(component, pure, binary):
+    """List the components that have a positive interaction with this one, in increasing order."""
+    found = []
+    # In the order of the pairs, those with a smaller component come first, each in increasing order.
+    for pair, interaction in zip(component_pairs(len(pure)), pair_interactions(pure, binary)):
+        if component in pair and interaction > 0:
+            found.append(pair[0] + pair[1] - component)
+    return found
+
+
 def predict(pure, binary, mixture):
     """Answer 0 and the predicted response of the mixture, or the error code."""
     if not responses_within_limits(pure, binary):
@@ -166,3 +177,13 @@ def predict_combination(k, m, pure, binary, first, second):
     first_response = predicted_response(pure, binary, first)
     second_response = predicted_response(pure, binary, second)
     return [0] + response + weighted_mean(k, m, first_response, second_response)
+
+
+def synergies(component, pure, binary):
+    """Answer how many components interact positively with this one and which, or the error code."""
+    if not responses_within_limits(pure, binary):
+        return [OUT_OF_LIMITS]
+    if not 0 <= component < len(pure):
+        return [NO_SUCH_COMPONENT]
+    found = positive_partners(component, pure, binary)
+    return [len(found)] + found

@@ -2,6 +2,7 @@
 
 import contextlib
 import copy
+import functools
 import io
 import itertools
 from fractions import Fraction
@@ -9,6 +10,14 @@ from fractions import Fraction
 # Four components whose six interactions are 24, -34, -2, -26, 22, -44.
 FOUR_PURE = [5, -3, 8, 2]
 FOUR_BINARY = [7, -2, 3, -4, 5, -6]
+
+# Three components whose interactions are 18, 18, 20.
+THREE_PURE = [1, 2, 4]
+THREE_BINARY = [6, 7, 8]
+
+# Four components whose interactions are all 40.
+EVEN_PURE = [2, 4, 6, 8]
+EVEN_BINARY = [13, 14, 15, 15, 16, 17]
 
 # The length of binary that belongs to each length of pure within the limits.
 PAIR_COUNTS = {1: 0, 2: 1, 3: 3, 4: 6}
@@ -35,6 +44,21 @@ def with_element(numbers, place, number):
     changed = list(numbers)
     changed[place] = number
     return changed
+
+
+def placed(count, places, parts):
+    """A mixture with the given parts at the given places, and no others."""
+    mixture = [0] * count
+    for place, number in zip(places, parts):
+        mixture[place] = number
+    return mixture
+
+
+@functools.cache
+def every_mixture(count, parts):
+    """All mixtures of so many components with so many parts, in lexicographic order."""
+    ranges = itertools.product(range(parts + 1), repeat=count)
+    return [list(mixture) for mixture in ranges if sum(mixture) == parts]
 
 
 def wrong_pure_lengths():

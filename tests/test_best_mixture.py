@@ -1,17 +1,22 @@
 """Tests of best_mixture."""
 
-import functools
 import itertools
 import unittest
 
 from pairblend.responses import best_mixture, predict
 from tests.cases import (
+    EVEN_BINARY,
+    EVEN_PURE,
     FOUR_BINARY,
     FOUR_PURE,
     PAIR_COUNTS,
+    THREE_BINARY,
+    THREE_PURE,
     CallChecks,
     defined_response,
+    every_mixture,
     fractions_of,
+    placed,
     rational,
     sweep,
     with_element,
@@ -22,29 +27,6 @@ WRONG_PARTS = (
     0, 11, 12, 20, 21, 99, 100, 255, 256, 257, 65535, 65536, 65537,
     2147483647, 2147483648, 2147483649, 4294967286, 4294967295,
 )
-
-# Three components whose interactions are 18, 18, 20.
-THREE_PURE = [1, 2, 4]
-THREE_BINARY = [6, 7, 8]
-
-# Four components whose interactions are all 40.
-EVEN_PURE = [2, 4, 6, 8]
-EVEN_BINARY = [13, 14, 15, 15, 16, 17]
-
-
-@functools.cache
-def every_mixture(count, parts):
-    """All mixtures of so many components with so many parts, in lexicographic order."""
-    ranges = itertools.product(range(parts + 1), repeat=count)
-    return [list(mixture) for mixture in ranges if sum(mixture) == parts]
-
-
-def placed(count, places, parts):
-    """A mixture with the given parts at the given places, and no others."""
-    mixture = [0] * count
-    for place, number in zip(places, parts):
-        mixture[place] = number
-    return mixture
 
 
 def favouring(count, places):
