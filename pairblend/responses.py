@@ -8,6 +8,7 @@ LARGEST_RESPONSE = 999
 MOST_PARTS = 99
 MOST_BEST_PARTS = 10
 LARGEST_PROPORTION = 99
+MOST_COUNTED_PARTS = 20
 
 
 def all_between(numbers, low, high):
@@ -133,6 +134,15 @@ def positive_partners(component, pure, binary):
     return found
 
 
+def binomial(whole, chosen):
+    """Give the number of ways to choose so many of a whole, 0 <= chosen <= whole."""
+    ways = 1
+    for step in range(chosen):
+        # What stands so far is a binomial coefficient after each step, so nothing is cut off.
+        ways = ways * (whole - step) // (step + 1)
+    return ways
+
+
 def predict(pure, binary, mixture):
     """Answer 0 and the predicted response of the mixture, or the error code."""
     if not responses_within_limits(pure, binary):
@@ -187,3 +197,12 @@ def synergies(component, pure, binary):
         return [NO_SUCH_COMPONENT]
     found = positive_partners(component, pure, binary)
     return [len(found)] + found
+
+
+def count_mixtures(components, parts):
+    """Answer the number of mixtures of so many components and parts, or the error code."""
+    if not 1 <= components <= MOST_COMPONENTS:
+        return [OUT_OF_LIMITS]
+    if not 0 <= parts <= MOST_COUNTED_PARTS:
+        return [OUT_OF_LIMITS]
+    return [binomial(parts + components - 1, components - 1)]
